@@ -25,6 +25,22 @@ INTERFACE = {
         "ring": ("def", ["a", "b", "c", "d"]),
         "middle": ("def", ["a", "b", "c"]),
     },
+    "filling.py": {
+        "hull": ("def", ["points"]),
+        "spread": ("def", ["points"]),
+        "fills": ("def", ["points", "net"]),
+    },
+    "swaps.py": {
+        "swapped": ("def", ["points", "net", "side"]),
+        "near": ("def", ["points"]),
+        "mended": ("def", ["points", "net"]),
+        "way": ("def", ["points", "one", "other"]),
+    },
+    "fields.py": {
+        "around": ("def", ["points", "net", "number"]),
+        "field": ("def", ["points", "net", "number"]),
+        "walked": ("def", ["points", "net", "start", "spot"]),
+    },
 }
 
 

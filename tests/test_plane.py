@@ -7,22 +7,11 @@ from math import gcd
 
 from nearfields.errors import InRow
 from nearfields.plane import far, middle, ring, turn
+from tests.plain import area, centre, gap
 from tests.refusals import assert_refused
+from tests.samples import WIDE_RING, M
 
-M = 1000000
 GRID = list(product(range(3), repeat=2))
-
-# Points at the very distance M from (0, 0), all of whole numbers.
-WIDE_RING = [
-    (M, 0),
-    (997120, 75840),
-    (600000, 800000),
-    (0, M),
-    (-352000, 936000),
-    (-M, 0),
-    (-752192, -658944),
-    (280000, -960000),
-]
 
 IN_ROW = [
     ((0, 0), (1, 1), (2, 2)),
@@ -44,33 +33,6 @@ IN_ROW = [
 
 def moved(points, across, up):
     return [(x + across, y + up) for x, y in points]
-
-
-def apart(a, b):
-    """Twice the area by the corners alone, another way than by differences."""
-    (ax, ay), (bx, by), (cx, cy) = a, b, (0, 0)
-    return ax * by - ay * bx + bx * cy - by * cx + cx * ay - cy * ax
-
-
-def area(a, b, c):
-    return apart(a, b) + apart(b, c) + apart(c, a)
-
-
-def centre(a, b, c):
-    """Where the lines that halve a, b and a, c cross, in fractions."""
-    across, up = b[0] - a[0], b[1] - a[1]
-    over, rise = c[0] - a[0], c[1] - a[1]
-    first = Fraction(across * across + up * up, 2)
-    second = Fraction(over * over + rise * rise, 2)
-    below = across * rise - up * over
-    return (
-        a[0] + (first * rise - second * up) / below,
-        a[1] + (across * second - over * first) / below,
-    )
-
-
-def gap(at, point):
-    return (at[0] - point[0]) ** 2 + (at[1] - point[1]) ** 2
 
 
 def ring_by_distances(a, b, c, d):

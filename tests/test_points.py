@@ -6,7 +6,7 @@ from fractions import Fraction
 
 from nearfields.errors import BadCount, BadPoint, Twice
 from nearfields.points import checked
-from tests.refusals import assert_refused
+from tests.refusals import Stubborn, assert_refused
 
 FORTY = [(k, k * k) for k in range(40)]
 CORNERS = [(-1000000, -1000000), (-1000000, 1000000), (1000000, -1000000), (1000000, 1000000)]
@@ -92,17 +92,6 @@ NO_POINTS = [
     object(),
     tuple,
 ]
-
-
-class Stubborn:
-    """A thing that can't be counted, compared, hashed or asked whether it is true."""
-
-    def _refuse(self, *rest):
-        raise RuntimeError("not to be asked")
-
-    __len__ = __iter__ = __getitem__ = __bool__ = _refuse
-    __eq__ = __ne__ = __lt__ = __le__ = __gt__ = __ge__ = _refuse
-    __hash__ = _refuse
 
 
 class Taken(unittest.TestCase):
